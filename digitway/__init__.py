@@ -1,0 +1,1 @@
+"""Binary floating-point numbers to decimal digits and back."""

@@ -1,0 +1,139 @@
+"""The interface as written, and those rules of the language that a look at the tree can show."""
+
+import ast
+import builtins
+import inspect
+import re
+import unittest
+from pathlib import Path
+
+from digitway import errors, numbers, shapes
+from digitway.shapes import DOUBLE
+
+FOLDER = Path(shapes.__file__).parent
+
+ALLOWED = set(
+    "len range enumerate zip min max sum abs sorted reversed int str bool bytes list tuple dict set frozenset "
+    "isinstance ord repr any all divmod Exception ValueError TypeError KeyError IndexError LookupError "
+    "ZeroDivisionError ArithmeticError OverflowError RuntimeError NotImplementedError AttributeError "
+    "StopIteration NotImplemented super property staticmethod classmethod".split()
+)
+
+SPECIAL = set("__init__ __eq__ __repr__ __str__ __len__ __enter__ __exit__ __call__".split())
+
+BARRED = re.compile(
+    r"\b(type|typing|typing_extensions|enum|Enum|IntEnum|StrEnum|Flag|IntFlag|Generic|Protocol|ABC|ABCMeta"
+    r"|namedtuple|NamedTuple|TypedDict|TYPE_CHECKING|abstractmethod)\b|dataclass|overload|contextmanager"
+)
+
+LISTED = {
+    errors: "BadValue BadText NotFinite NoRow CantBe Untold NoPaper",
+    shapes: "HALF SINGLE DOUBLE is_whole is_shape raised",
+    numbers: "Number infinite nan by_rank by_word greatest compare between",
+}
+
+METHODS = "__init__ shape sign kind parts value rank word up down negated __eq__ __str__ __repr__".split()
+
+ARGUMENTS = {
+    shapes.is_whole: "(thing, least, most)",
+    shapes.is_shape: "(thing)",
+    shapes.raised: "(base, many)",
+    numbers.Number: f"(shape={DOUBLE}, *, sign=0, significand=0, exponent=None)",
+    numbers.infinite: f"(shape={DOUBLE}, *, sign=0)",
+    numbers.nan: f"(shape={DOUBLE})",
+    numbers.by_rank: f"(rank, shape={DOUBLE})",
+    numbers.by_word: f"(word, shape={DOUBLE})",
+    numbers.greatest: f"(shape={DOUBLE}, *, sign=0)",
+    numbers.compare: "(one, other)",
+    numbers.between: "(one, other)",
+}
+
+
+def files():
+    return sorted(FOLDER.glob("*.py"))
+
+
+def nodes(*kinds):
+    """Each node of these kinds in the package, with the name of its file."""
+    for path in files():
+        for node in ast.walk(ast.parse(path.read_text())):
+            if isinstance(node, kinds):
+                yield path.name, node
+
+
+class Interface(unittest.TestCase):
+    def test_names(self):
+        for module, names in LISTED.items():
+            for name in names.split():
+                self.assertTrue(hasattr(module, name), name)
+
+    def test_methods_stand_in_the_class_itself(self):
+        for name in METHODS:
+            self.assertIn(name, vars(numbers.Number))
+
+    def test_arguments(self):
+        for call, wanted in ARGUMENTS.items():
+            self.assertEqual(str(inspect.signature(call)), wanted, call.__name__)
+
+
+class Form(unittest.TestCase):
+    def test_files(self):
+        for path in FOLDER.iterdir():
+            if path.name != "__pycache__":
+                self.assertRegex(path.name, r"^[a-z0-9_]+\.py$")
+
+    def test_lines_and_signs(self):
+        for path in files():
+            text = path.read_text()
+            self.assertTrue(all(sign == "\n" or " " <= sign <= "~" for sign in text), path.name)
+            self.assertLessEqual(len(text.splitlines()), 400, path.name)
+            self.assertLessEqual(max(len(line) for line in text.splitlines()), 120, path.name)
+            self.assertIsNone(BARRED.search(text), path.name)
+
+    def test_functions_are_short(self):
+        for name, node in nodes(ast.FunctionDef):
+            self.assertLessEqual(node.end_lineno - node.lineno + 1, 40, f"{name} {node.name}")
+            self.assertTrue(not node.name.startswith("_") or node.name in SPECIAL, f"{name} {node.name}")
+
+    def test_imports_are_from_the_package_and_in_no_circle(self):
+        seen = {}
+        for name, node in nodes(ast.Import, ast.ImportFrom):
+            self.assertIsInstance(node, ast.ImportFrom, name)
+            self.assertTrue(node.level == 0 and node.module.startswith("digitway."), name)
+            seen.setdefault(name, set()).add(node.module.removeprefix("digitway.") + ".py")
+        while seen:
+            free = [name for name in seen if not seen[name] & set(seen)]
+            self.assertTrue(free, f"a circle among {sorted(seen)}")
+            for name in free:
+                del seen[name]
+
+    def test_names(self):
+        for name, node in nodes(ast.Name):
+            self.assertFalse(node.id.startswith("_"), f"{name} {node.id}")
+            if hasattr(builtins, node.id):
+                self.assertIn(node.id, ALLOWED, name)
+                self.assertIsInstance(node.ctx, ast.Load, f"{name} {node.id}")
+
+    def test_no_name_is_a_method_and_an_attribute(self):
+        methods = {
+            part.name
+            for name, node in nodes(ast.ClassDef)
+            for part in node.body
+            if isinstance(part, ast.FunctionDef)
+        }
+        stored = {node.attr for name, node in nodes(ast.Attribute) if isinstance(node.ctx, ast.Store)}
+        self.assertEqual(methods & stored, set())
+
+    def test_signs_of_numbers_and_strings(self):
+        for name, node in nodes(ast.BinOp, ast.Constant):
+            if isinstance(node, ast.Constant):
+                self.assertNotIsInstance(node.value, (float, complex), name)
+                self.assertFalse(isinstance(node.value, str) and "%" in node.value, name)
+                continue
+            self.assertNotIsInstance(node.op, (ast.Div, ast.MatMult), name)
+            if isinstance(node.op, ast.Pow):
+                self.assertTrue(isinstance(node.right, ast.Constant) and 0 <= node.right.value <= 64, name)
+
+
+if __name__ == "__main__":
+    unittest.main()
