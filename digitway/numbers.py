@@ -54,10 +54,7 @@ class Number:
     def value(self):
         """The value as a fraction in lowest terms."""
         significand, exponent = self.parts()
-        signed = -significand if self.own_sign == 1 else significand
-        if exponent >= 0:
-            return (signed << exponent, 1)
-        return halved(signed, -exponent)
+        return by_twos(-significand if self.own_sign == 1 else significand, exponent)
 
     def rank(self):
         """The count of steps from zero, below 0 with sign 1."""
@@ -186,6 +183,13 @@ def want_number(thing):
         raise BadValue("number")
 
 
+def want_finite(thing):
+    """Refuse anything but a number, and then what isn't finite."""
+    want_number(thing)
+    # Only finite numbers have parts: the others refuse the question as it is wanted here.
+    thing.parts()
+
+
 def first_normal(shape):
     """The least significand of a normal number."""
     return 1 << (shape[0] - 1)
@@ -245,13 +249,15 @@ def moved(number, step):
     return by_rank(rank, shape)
 
 
-def halved(numerator, many):
-    """The numerator, halved so many times, as a fraction in lowest terms."""
+def by_twos(numerator, exponent):
+    """The numerator times 2 ** exponent as a fraction in lowest terms."""
+    if exponent >= 0:
+        return (numerator << exponent, 1)
     if numerator == 0:
         return (0, 1)
     twos = (numerator & -numerator).bit_length() - 1
-    spare = min(twos, many)
-    return (numerator >> spare, 1 << (many - spare))
+    spare = min(twos, -exponent)
+    return (numerator >> spare, 1 << (-exponent - spare))
 
 
 def side(number):

@@ -7,7 +7,7 @@ import re
 import unittest
 from pathlib import Path
 
-from digitway import errors, numbers, shapes
+from digitway import decimals, errors, numbers, reading, rounding, shapes, writing
 from digitway.shapes import DOUBLE
 
 FOLDER = Path(shapes.__file__).parent
@@ -30,9 +30,17 @@ LISTED = {
     errors: "BadValue BadText NotFinite NoRow CantBe Untold NoPaper",
     shapes: "HALF SINGLE DOUBLE is_whole is_shape raised",
     numbers: "Number infinite nan by_rank by_word greatest compare between",
+    rounding: "NEAREST AWAY ZERO UP DOWN is_way to_whole rounded",
+    decimals: "Decimal",
+    reading: "read_text read read_decimal",
+    writing: "bounds reads_back shortest is_shortest show with_figures with_places Expansion",
 }
 
-METHODS = "__init__ shape sign kind parts value rank word up down negated __eq__ __str__ __repr__".split()
+METHODS = {
+    numbers.Number: "__init__ shape sign kind parts value rank word up down negated __eq__ __str__ __repr__",
+    decimals.Decimal: "__init__ digits tens sign value plain __eq__ __len__ __str__ __repr__",
+    writing.Expansion: "__init__ take tens is_over taken copy __eq__",
+}
 
 ARGUMENTS = {
     shapes.is_whole: "(thing, least, most)",
@@ -46,7 +54,26 @@ ARGUMENTS = {
     numbers.greatest: f"(shape={DOUBLE}, *, sign=0)",
     numbers.compare: "(one, other)",
     numbers.between: "(one, other)",
+    rounding.is_way: "(thing)",
+    rounding.to_whole: "(numerator, denominator=1, *, way='nearest')",
+    rounding.rounded: f"(numerator, denominator=1, *, shape={DOUBLE}, way='nearest', sign=0)",
+    decimals.Decimal: "(digits=0, power=0, *, sign=0)",
+    reading.read_text: "(text)",
+    reading.read: f"(text, shape={DOUBLE}, *, way='nearest')",
+    reading.read_decimal: f"(decimal, shape={DOUBLE}, *, way='nearest')",
+    writing.bounds: "(number)",
+    writing.reads_back: "(number, decimal)",
+    writing.shortest: "(number)",
+    writing.is_shortest: "(number, decimal)",
+    writing.show: "(number)",
+    writing.with_figures: "(number, many=17, *, way='nearest')",
+    writing.with_places: "(number, places=0, *, way='nearest')",
+    writing.Expansion: "(number)",
+    writing.Expansion.take: "(self, many=1)",
 }
+
+# Where a class has its own ==, these take a list instead of a generator.
+WANT_LISTS = set("any all min max sum sorted".split())
 
 
 def files():
@@ -68,8 +95,9 @@ class Interface(unittest.TestCase):
                 self.assertTrue(hasattr(module, name), name)
 
     def test_methods_stand_in_the_class_itself(self):
-        for name in METHODS:
-            self.assertIn(name, vars(numbers.Number))
+        for kind, names in METHODS.items():
+            for name in names.split():
+                self.assertIn(name, vars(kind), kind.__name__)
 
     def test_arguments(self):
         for call, wanted in ARGUMENTS.items():
@@ -123,6 +151,33 @@ class Form(unittest.TestCase):
         }
         stored = {node.attr for name, node in nodes(ast.Attribute) if isinstance(node.ctx, ast.Store)}
         self.assertEqual(methods & stored, set())
+
+    def test_no_local_name_is_that_of_a_class_or_an_import(self):
+        for path in files():
+            tree = ast.parse(path.read_text())
+            taken = {node.name for node in tree.body if isinstance(node, ast.ClassDef)}
+            taken |= {alias.name for node in tree.body if isinstance(node, ast.ImportFrom) for alias in node.names}
+            local = {node.id for node in ast.walk(tree) if isinstance(node, ast.Name) and isinstance(node.ctx, ast.Store)}
+            local |= {node.arg for node in ast.walk(tree) if isinstance(node, ast.arg)}
+            self.assertEqual(taken & local, set(), path.name)
+            self.assertEqual({name for name in local if hasattr(builtins, name)}, set(), path.name)
+
+    def test_every_import_is_used(self):
+        for path in files():
+            tree = ast.parse(path.read_text())
+            taken = {alias.name for node in tree.body if isinstance(node, ast.ImportFrom) for alias in node.names}
+            used = {node.id for node in ast.walk(tree) if isinstance(node, ast.Name)}
+            self.assertEqual(taken - used, set(), path.name)
+
+    def test_is_and_generators(self):
+        for name, node in nodes(ast.Compare, ast.Call):
+            if isinstance(node, ast.Call):
+                if isinstance(node.func, ast.Name) and node.func.id in WANT_LISTS:
+                    self.assertFalse(any(isinstance(given, ast.GeneratorExp) for given in node.args), name)
+                continue
+            for sign, other in zip(node.ops, node.comparators):
+                if isinstance(sign, (ast.Is, ast.IsNot)):
+                    self.assertTrue(isinstance(other, ast.Constant) and other.value in (None, True, False), name)
 
     def test_signs_of_numbers_and_strings(self):
         for name, node in nodes(ast.BinOp, ast.Constant):

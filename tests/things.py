@@ -3,11 +3,15 @@
 from fractions import Fraction
 from itertools import product
 
-from digitway.errors import BadValue
+from digitway.decimals import Decimal
+from digitway.errors import BadText, BadValue, NotFinite
 from digitway.numbers import Number
 from digitway.shapes import DOUBLE, HALF, SINGLE
+from digitway.writing import Expansion
 
 DEEP = 100_000
+
+WAYS = ("nearest", "away", "zero", "up", "down")
 
 
 class Hostile:
@@ -90,13 +94,57 @@ ANYTHING = {
     "doubled list": doubled(lambda thing: [thing, thing]),
 }
 
-NOT_WHOLE = {**ANYTHING, "number": Number(), "shape": DOUBLE}
+OWN = {"number": Number(), "decimal": Decimal(1), "expansion": Expansion(Number())}
 
-NOT_NUMBERS = {**ANYTHING, "shape": DOUBLE, "0": 0, "1": 1, "-1": -1, "name": "nan", "text": "0p-1074"}
+NOT_WHOLE = {**ANYTHING, **OWN, "shape": DOUBLE}
+
+NOT_NUMBERS = {
+    **ANYTHING,
+    "decimal": OWN["decimal"],
+    "expansion": OWN["expansion"],
+    "shape": DOUBLE,
+    "0": 0,
+    "1": 1,
+    "-1": -1,
+    "name": "nan",
+    "text": "0p-1074",
+}
+
+NOT_DECIMALS = {
+    **ANYTHING,
+    "number": OWN["number"],
+    "expansion": OWN["expansion"],
+    "shape": DOUBLE,
+    "0": 0,
+    "1": 1,
+    "its text": "1e0",
+    "its parts": (0, 1, 0),
+}
+
+NOT_WAYS = {
+    **NOT_WHOLE,
+    "0": 0,
+    "1": 1,
+    **{
+        wrong: wrong
+        for way in WAYS
+        for wrong in (way.upper(), way.title(), way[:-1], way + " ", " " + way, way + "s")
+    },
+    "bytes of one": b"nearest",
+    "list of one": ["nearest"],
+    "tuple with one": ("nearest",),
+    "all of them": " ".join(WAYS),
+}
+
+NO_TEXTS = {
+    name: thing
+    for name, thing in {**NOT_WHOLE, "0": 0, "1": 1, "bytes of nan": b"nan", "signs": ["1", "2"]}.items()
+    if not isinstance(thing, str)
+}
 
 NOT_SHAPES = {
     **ANYTHING,
-    "number": Number(),
+    **OWN,
     "0": 0,
     "53": 53,
     "list of three": [11, -24, 5],
@@ -185,9 +233,25 @@ def edge_numbers(shape):
     ]
 
 
+def caught_from(case, error, call, given, named):
+    """What the call is refused by, which is of that class itself."""
+    with case.assertRaises(error) as caught:
+        call(*given, **named)
+    case.assertTrue(type(caught.exception) is error)
+    return caught.exception
+
+
 def refused(case, what, call, *given, **named):
     """Check that the call is refused by BadValue itself, with this word."""
-    with case.assertRaises(BadValue) as caught:
-        call(*given, **named)
-    case.assertTrue(type(caught.exception) is BadValue)
-    case.assertEqual(caught.exception.what, what)
+    case.assertEqual(caught_from(case, BadValue, call, given, named).what, what)
+
+
+def refused_text(case, place, call, *given, **named):
+    """Check that the call is refused by BadText, at this place."""
+    error = caught_from(case, BadText, call, given, named)
+    case.assertEqual((error.place, error.what), (place, "text"))
+
+
+def refused_state(case, state, call, *given, **named):
+    """Check that the call is refused by NotFinite, with this word."""
+    case.assertEqual(caught_from(case, NotFinite, call, given, named).state, state)
