@@ -169,8 +169,9 @@ def quarters(number):
     """The least bound, the value and the most bound, each as so many of 2 ** (exponent - 2), sign left out."""
     significand, exponent = number.parts()
     here = 4 * significand
+    # Nothing is below 0 as the sign is left out.
     if here == 0:
-        return (0, 0, 2)
+        return (0, here, 2)
     precision, low, high = number.shape()
     # The number down from a power of two is half as far as that up from it.
     if significand == first_normal(number.shape()) and exponent > low:
