@@ -7,7 +7,7 @@ import re
 import unittest
 from pathlib import Path
 
-from digitway import decimals, errors, numbers, reading, rounding, shapes, writing
+from digitway import checking, decimals, errors, gaps, numbers, reading, rounding, shapes, sure, tables, writing
 from digitway.shapes import DOUBLE
 
 FOLDER = Path(shapes.__file__).parent
@@ -34,6 +34,10 @@ LISTED = {
     decimals: "Decimal",
     reading: "read_text read read_decimal",
     writing: "bounds reads_back shortest is_shortest show with_figures with_places Expansion",
+    tables: "BITS WIDTH entry is_exact opened by_table least_bits",
+    gaps: "stands_at first_hit gap_paper",
+    checking: "check_gap check_sure",
+    sure: "unsure sure_paper first_lost enough",
 }
 
 METHODS = {
@@ -70,6 +74,20 @@ ARGUMENTS = {
     writing.with_places: "(number, places=0, *, way='nearest')",
     writing.Expansion: "(number)",
     writing.Expansion.take: "(self, many=1)",
+    tables.entry: "(power, *, bits=64)",
+    tables.is_exact: "(power, *, bits=64)",
+    tables.opened: "(decimal, *, bits=64, width=64)",
+    tables.by_table: f"(decimal, shape={DOUBLE}, *, way='nearest', bits=64, width=64)",
+    tables.least_bits: f"(decimal, shape={DOUBLE}, *, way='nearest', width=64)",
+    gaps.stands_at: "(walk, steps)",
+    gaps.first_hit: "(walk, least, most, *, stop=None)",
+    gaps.gap_paper: "(walk, least, most, *, stop=None)",
+    checking.check_gap: "(walk, least, most, paper, *, stop=None)",
+    checking.check_sure: f"(power, paper, shape={DOUBLE}, *, bits=64, width=64)",
+    sure.unsure: f"(power, shape={DOUBLE}, *, bits=64, width=64)",
+    sure.sure_paper: f"(power, shape={DOUBLE}, *, bits=64, width=64)",
+    sure.first_lost: "(shape, many)",
+    sure.enough: "(shape)",
 }
 
 # Where a class has its own ==, these take a list instead of a generator.

@@ -1,10 +1,9 @@
 """Each argument of rounding, decimals, reading and writing that is none, alone and beside others."""
 
-import inspect
 import unittest
 
 from digitway.decimals import Decimal
-from digitway.errors import BadText, BadValue, NotFinite
+from digitway.errors import NotFinite
 from digitway.numbers import Number, infinite, nan
 from digitway.reading import read, read_decimal, read_text
 from digitway.rounding import rounded, to_whole
@@ -20,27 +19,19 @@ from digitway.writing import (
     with_places,
 )
 
+from tests.refusing import Refusals, but
 from tests.things import (
     NO_TEXTS,
     NOT_DECIMALS,
     NOT_NUMBERS,
     NOT_SHAPES,
     NOT_WAYS,
-    NOT_WHOLE,
     refused,
     refused_state,
     refused_text,
 )
 
 TENTH = read("0.1")[0]
-
-GREAT = {"great": 10**3999, "small": -(10**3999)}
-
-
-def but(*more):
-    """What is no whole number, and these that are beyond the bounds."""
-    return {**NOT_WHOLE, **GREAT, **{f"more {at}": thing for at, thing in enumerate(more)}}
-
 
 BAD = {
     "numerator": but(10**3000, -(10**3000)),
@@ -57,7 +48,6 @@ BAD = {
     "places": but(-401, 1201),
 }
 
-# By the call: what it takes, in the order in which it is refused, and how many of these by place.
 CALLS = {
     to_whole: ({"numerator": 7, "denominator": 2, "way": "up"}, 2),
     rounded: ({"numerator": 7, "denominator": 2, "shape": HALF, "way": "up", "sign": 1}, 2),
@@ -84,51 +74,12 @@ NOT_FINITE = [
 ]
 
 
-def refused_as(case, name, call, *given, **named):
-    """Check the refusal that an argument of that name has coming, if it is no such thing at all."""
-    if name == "text":
-        refused_text(case, 0, call, *given, **named)
-    else:
-        refused(case, name, call, *given, **named)
+class Refused(Refusals, unittest.TestCase):
+    BAD = BAD
+    CALLS = CALLS
 
 
-def needed(call, good):
-    """The arguments that have no default."""
-    listed = inspect.signature(call).parameters
-    return {name: thing for name, thing in good.items() if listed[name].default is inspect.Parameter.empty}
-
-
-def each_bad():
-    for call, (good, by_place) in CALLS.items():
-        for at, name in enumerate(good):
-            for what, thing in BAD[name].items():
-                yield call, good, by_place, at, name, what, thing
-
-
-class One(unittest.TestCase):
-    def test_all_are_well_as_they_are(self):
-        for call, (good, by_place) in CALLS.items():
-            call(**good)
-            call(*list(good.values())[:by_place])
-
-    def test_by_name(self):
-        for call, good, by_place, at, name, what, thing in each_bad():
-            with self.subTest(call=call.__name__, name=name, what=what):
-                refused_as(self, name, call, **{**good, name: thing})
-
-    def test_by_place(self):
-        for call, good, by_place, at, name, what, thing in each_bad():
-            if at < by_place:
-                with self.subTest(call=call.__name__, name=name, what=what):
-                    given = list(good.values())[:by_place]
-                    given[at] = thing
-                    refused_as(self, name, call, *given)
-
-    def test_alone_with_defaults_left_out(self):
-        for call, good, by_place, at, name, what, thing in each_bad():
-            with self.subTest(call=call.__name__, name=name, what=what):
-                refused_as(self, name, call, **{**needed(call, good), name: thing})
-
+class Besides(unittest.TestCase):
     def test_figures_to_take(self):
         for name, thing in but(-1, 2001).items():
             with self.subTest(name):
@@ -136,26 +87,6 @@ class One(unittest.TestCase):
                 refused(self, "many", expansion.take, thing)
                 refused(self, "many", expansion.take, many=thing)
                 self.assertTrue(expansion == Expansion(TENTH))
-
-
-class Several(unittest.TestCase):
-    def test_the_first_of_two(self):
-        for call, (good, by_place) in CALLS.items():
-            names = list(good)
-            for at, first in enumerate(names):
-                for second in names[at + 1:]:
-                    for what in ("deep tuple", "None", "hostile", "True"):
-                        bad = {first: BAD[first][what], second: BAD[second][what]}
-                        with self.subTest(call=call.__name__, first=first, second=second, what=what):
-                            refused_as(self, first, call, **{**good, **bad})
-                            refused_as(self, first, call, **dict(reversed({**good, **bad}.items())))
-
-    def test_the_first_of_all_that_are_left(self):
-        for call, (good, by_place) in CALLS.items():
-            bad = {name: BAD[name]["doubled list"] for name in good}
-            for name in good:
-                refused_as(self, name, call, **{**good, **bad})
-                del bad[name]
 
     def test_a_wrong_text_ahead_of_shape_and_way(self):
         for text, place in (("", 0), ("1e", 2), ("infi", 3), ("1" * 1901, 1900), ("+n", 1)):
@@ -191,31 +122,6 @@ class Finite(unittest.TestCase):
 
     def test_shown_all_the_same(self):
         self.assertEqual([show(number) for number, state in NOT_FINITE[:3]], ["inf", "-inf", "nan"])
-
-
-class Unchanged(unittest.TestCase):
-    def test_what_is_refused(self):
-        for call, (good, by_place) in CALLS.items():
-            for name in good:
-                things = [11, [-24], {"a": 5}], {"a": [1]}, ([1], "x", {2: [3]})
-                for thing in things:
-                    with self.assertRaises((BadValue, BadText)):
-                        call(**{**good, name: thing})
-                self.assertEqual(things, ([11, [-24], {"a": 5}], {"a": [1]}, ([1], "x", {2: [3]})))
-
-    def test_what_is_taken(self):
-        for call, (good, by_place) in CALLS.items():
-            told = {name: str(thing) for name, thing in good.items()}
-            call(**good)
-            self.assertEqual({name: str(thing) for name, thing in good.items()}, told)
-
-    def test_the_same_is_told_again(self):
-        for call, (good, by_place) in CALLS.items():
-            one = call(**good)
-            for name in good:
-                with self.assertRaises((BadValue, BadText, NotFinite)):
-                    call(**{**good, name: []})
-            self.assertTrue(one == call(**good), call.__name__)
 
     def test_numbers_that_were_refused(self):
         for number, state in NOT_FINITE:
