@@ -45,25 +45,15 @@ ENDS = ("nan", "inf", "figures", "places", "e 1", "e 2", "e 3", "e 4")
 def read_text(text):
     """The decimal that a text tells, or one of the texts "inf", "-inf", "nan"."""
     want_text(text)
-    bare = text.lstrip("+")
-    if bare in ("inf", "-inf", "nan"):
-        return bare
-    figures, mark, power = bare.lstrip("-").partition("e")
-    ahead, point, behind = figures.partition(".")
-    told = int(power) if mark == "e" else 0
-    return Decimal(int(ahead + behind), told - len(behind), sign=1 if bare.startswith("-") else 0)
+    return told_by(text)
 
 
 def read(text, shape=DOUBLE, *, way=NEAREST):
     """The pair (number, flags) that a text tells."""
-    told = read_text(text)
-    if isinstance(told, Decimal):
-        return read_decimal(told, shape, way=way)
+    want_text(text)
     want_shape(shape)
     want_way(way)
-    if told == "nan":
-        return (nan(shape), ())
-    return (infinite(shape, sign=1 if told == "-inf" else 0), ())
+    return number_told(text, shape, way)
 
 
 def read_decimal(decimal, shape=DOUBLE, *, way=NEAREST):
@@ -81,15 +71,42 @@ def want_text(thing):
         raise BadText(0)
     if len(thing) > MOST_SIGNS:
         raise BadText(MOST_SIGNS)
-    state = START
-    for place, sign in enumerate(thing):
-        state = stepped(state, sign)
-        if state is None:
-            raise BadText(place)
-    if state not in ENDS:
-        raise BadText(len(thing))
+    place, state = gone(START, thing)
+    if place < len(thing) or state not in ENDS:
+        raise BadText(place)
+
+
+def gone(state, signs):
+    """How many of the signs go on from a state, one behind the other, and where the text stands then."""
+    for place, sign in enumerate(signs):
+        following = stepped(state, sign)
+        if following is None:
+            return (place, state)
+        state = following
+    return (len(signs), state)
 
 
 def stepped(state, sign):
     """Where a text stands behind one more sign, or None where none goes on so."""
     return STEPS.get((state, "0" if "0" <= sign <= "9" else sign))
+
+
+def told_by(text):
+    """As read_text, of a text, however many signs it has."""
+    bare = text.lstrip("+")
+    if bare in ("inf", "-inf", "nan"):
+        return bare
+    figures, mark, power = bare.lstrip("-").partition("e")
+    ahead, point, behind = figures.partition(".")
+    told = int(power) if mark == "e" else 0
+    return Decimal(int(ahead + behind), told - len(behind), sign=1 if bare.startswith("-") else 0)
+
+
+def number_told(text, shape, way):
+    """As read, of a text, however many signs it has, and others that are what they should be."""
+    told = told_by(text)
+    if isinstance(told, Decimal):
+        return read_decimal(told, shape, way=way)
+    if told == "nan":
+        return (nan(shape), ())
+    return (infinite(shape, sign=1 if told == "-inf" else 0), ())

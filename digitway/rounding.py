@@ -13,6 +13,8 @@ DOWN = "down"
 INEXACT = "inexact"
 OVERFLOW = "overflow"
 UNDERFLOW = "underflow"
+# All of them, in the order in which they are told.
+FLAGS = ("inexact", "overflow", "underflow")
 
 # Ten to 3,000: above all numerators, and the greatest denominator.
 FRACTION_END = (10 ** 50) ** 60

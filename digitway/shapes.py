@@ -6,6 +6,8 @@ HALF = (11, -24, 5)
 SINGLE = (24, -149, 104)
 DOUBLE = (53, -1074, 971)
 
+LOW_LEAST = -1100
+
 
 def is_whole(thing, least, most):
     """Whether anything is a whole number from least to most; True and False are none."""
@@ -18,7 +20,7 @@ def is_shape(thing):
         isinstance(thing, tuple)
         and len(thing) == 3
         and is_whole(thing[0], 2, 64)
-        and is_whole(thing[1], -1100, 0)
+        and is_whole(thing[1], LOW_LEAST, 0)
         and is_whole(thing[2], thing[1], 1000)
     )
 

@@ -6,6 +6,11 @@ from digitway.reading import read_decimal
 from digitway.rounding import INEXACT, NEAREST, want_way, whole_near
 from digitway.shapes import raised, want_whole
 
+FIGURES_LEAST = 1
+FIGURES_MOST = 800
+PLACES_LEAST = -400
+PLACES_MOST = 1200
+
 
 class Expansion:
     """The figures of a number, taken one behind the other, without end."""
@@ -107,7 +112,7 @@ def show(number):
 def with_figures(number, many=17, *, way=NEAREST):
     """The pair (decimal, flags) of a number with so many figures."""
     want_finite(number)
-    want_whole(many, 1, 800, "many")
+    want_whole(many, FIGURES_LEAST, FIGURES_MOST, "many")
     want_way(way)
     above, below = size(number)
     if above == 0:
@@ -121,7 +126,7 @@ def with_figures(number, many=17, *, way=NEAREST):
 def with_places(number, places=0, *, way=NEAREST):
     """The pair (decimal, flags) of a number with so many places behind the point."""
     want_finite(number)
-    want_whole(places, -400, 1200, "places")
+    want_whole(places, PLACES_LEAST, PLACES_MOST, "places")
     want_way(way)
     return at_power(number, -places, way)
 

@@ -7,7 +7,8 @@ import re
 import unittest
 from pathlib import Path
 
-from digitway import checking, decimals, errors, gaps, numbers, reading, rounding, shapes, sure, tables, writing
+from digitway import checking, columns, decimals, desk, errors, feeds, gaps, numbers, reading, rounding, shapes, sure
+from digitway import tables, writing
 from digitway.shapes import DOUBLE
 
 FOLDER = Path(shapes.__file__).parent
@@ -38,12 +39,19 @@ LISTED = {
     gaps: "stands_at first_hit gap_paper",
     checking: "check_gap check_sure",
     sure: "unsure sure_paper first_lost enough",
+    feeds: "follows Feed",
+    columns: "Column",
+    desk: "Desk",
 }
 
 METHODS = {
     numbers.Number: "__init__ shape sign kind parts value rank word up down negated __eq__ __str__ __repr__",
     decimals.Decimal: "__init__ digits tens sign value plain __eq__ __len__ __str__ __repr__",
     writing.Expansion: "__init__ take tens is_over taken copy __eq__",
+    feeds.Feed: "__init__ push back heard pieces is_text told known copy __eq__ __len__",
+    columns.Column: "__init__ shape way turn tell tell_within drop row_told number numbers flags settle same ranked "
+    "total turned twice story copy __eq__ __len__",
+    desk.Desk: "__init__ say",
 }
 
 ARGUMENTS = {
@@ -88,6 +96,23 @@ ARGUMENTS = {
     sure.sure_paper: f"(power, shape={DOUBLE}, *, bits=64, width=64)",
     sure.first_lost: "(shape, many)",
     sure.enough: "(shape)",
+    feeds.follows: "(text)",
+    feeds.Feed: f"(shape={DOUBLE}, *, way='nearest')",
+    feeds.Feed.push: "(self, piece)",
+    feeds.Feed.known: "(self, *, figures=False)",
+    columns.Column: f"(shape={DOUBLE}, *, way='nearest', texts=())",
+    columns.Column.turn: "(self, *, shape=None, way=None)",
+    columns.Column.tell: "(self, text)",
+    columns.Column.tell_within: "(self, texts, *, shape=None, way=None)",
+    columns.Column.drop: "(self, place)",
+    columns.Column.row_told: "(self, place)",
+    columns.Column.number: "(self, place)",
+    columns.Column.total: "(self, *, shape=None, way=None)",
+    columns.Column.turned: "(self, *, shape=None, way=None)",
+    columns.Column.twice: "(self, shape, *, way=None)",
+    columns.Column.story: "(self, lines)",
+    desk.Desk: "()",
+    desk.Desk.say: "(self, line)",
 }
 
 # Where a class has its own ==, these take a list instead of a generator.

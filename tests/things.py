@@ -3,8 +3,11 @@
 from fractions import Fraction
 from itertools import product
 
+from digitway.columns import Column
 from digitway.decimals import Decimal
+from digitway.desk import Desk
 from digitway.errors import BadText, BadValue, NotFinite
+from digitway.feeds import Feed
 from digitway.numbers import Number
 from digitway.shapes import DOUBLE, HALF, SINGLE
 from digitway.writing import Expansion
@@ -94,14 +97,20 @@ ANYTHING = {
     "doubled list": doubled(lambda thing: [thing, thing]),
 }
 
-OWN = {"number": Number(), "decimal": Decimal(1), "expansion": Expansion(Number())}
+OWN = {
+    "number": Number(),
+    "decimal": Decimal(1),
+    "expansion": Expansion(Number()),
+    "feed": Feed(),
+    "column": Column(texts=["1"]),
+    "desk": Desk(),
+}
 
 NOT_WHOLE = {**ANYTHING, **OWN, "shape": DOUBLE}
 
 NOT_NUMBERS = {
     **ANYTHING,
-    "decimal": OWN["decimal"],
-    "expansion": OWN["expansion"],
+    **{name: thing for name, thing in OWN.items() if name != "number"},
     "shape": DOUBLE,
     "0": 0,
     "1": 1,
@@ -112,8 +121,7 @@ NOT_NUMBERS = {
 
 NOT_DECIMALS = {
     **ANYTHING,
-    "number": OWN["number"],
-    "expansion": OWN["expansion"],
+    **{name: thing for name, thing in OWN.items() if name != "decimal"},
     "shape": DOUBLE,
     "0": 0,
     "1": 1,
