@@ -44,6 +44,12 @@ class Small(unittest.TestCase):
                 self.assertTrue(told == wanted, (shape, many, told, wanted))
         self.assertTrue(min(found.values()) > 10, found)
 
+    def test_an_even_one_at_a_half_way_is_not_lost(self):
+        # 10016 is 1252p3, and 10020 is half way to 1253p3: it is read as the even one.
+        told = first_lost((11, 0, 5), 4)
+        self.assertTrue(told == searched((11, 0, 5), 4))
+        self.assertEqual(str(told), "1253p3")
+
     def test_enough_against_all_numbers(self):
         for shape in SMALL:
             wanted = min(many for many in range(1, 10) if searched(shape, many) is None)
